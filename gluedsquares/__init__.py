@@ -1,0 +1,1 @@
+"""Surfaces of squares that are glued side to side."""

@@ -1,0 +1,127 @@
+"""How calls are handed in and answers given back, and what is answered before a begin."""
+
+import contextlib
+import io
+import unittest
+
+from gluedsquares.surface import answers
+from spelling import GREATEST, ask, begin, corner, corners, glue, go, holes, name, walk
+
+MANY = (
+    begin(3) + glue([1, 0, 2], [2, 1, 0]) + go(0, 1) + walk(1, [0, 1]) + corners() + corner(0) + holes() + name()
+    + glue([0, 0], [1]) + glue([0, 1, 2], [0, 1, 2]) + go(3, 0) + begin(9)
+)
+MANY_ANSWERED = [
+    1, 0,
+    1, 1,
+    1, 2,
+    1, 2,
+    2, 1, 3,
+    4, 3, 0, 2, 1,
+    1, 2,
+    7, 6, 0, 2, 1, 1, 0, 2,
+    1, -22,
+    1, -33,
+    1, -2,
+    1, -22,
+]
+
+
+class OneList(unittest.TestCase):
+    def test_no_call(self):
+        self.assertEqual(answers([]), [])
+
+    def test_one_call(self):
+        self.assertEqual(answers([0, 6]), [1, 0])
+        self.assertEqual(answers([0, 7]), [1, -22])
+
+    def test_several_calls(self):
+        self.assertEqual(answers(MANY), MANY_ANSWERED)
+
+    def test_forty_calls(self):
+        self.assertEqual(answers([0, 2] + [6] * 39), [1, 0] + [1, 1] * 39)
+
+    def test_the_longest_lists(self):
+        long = [GREATEST] * 255
+        calls = begin(6) + (glue(long, long) * 39)
+        self.assertEqual(answers(calls), [1, 0] + [1, -22] * 39)
+
+    def test_empty_lists_among_calls(self):
+        self.assertEqual(answers([0, 2, 1, 0, 0, 3, 1, 0, 6]), [1, 0, 1, -22, 1, 1, 1, 1])
+
+    def test_whole_numbers_are_given_back(self):
+        given = answers(MANY)
+        self.assertIs(type(given), list)
+        self.assertEqual({type(number) for number in given}, {int})
+
+
+class HandedIn(unittest.TestCase):
+    def test_it_is_as_it_was(self):
+        calls = list(MANY)
+        answers(calls)
+        self.assertEqual(calls, MANY)
+
+    def test_it_is_not_written_to_for_a_while_either(self):
+        class Watched(list):
+            def refuse(self, *given):
+                raise AssertionError("what is handed in was changed")
+
+            append = extend = insert = pop = remove = clear = sort = reverse = refuse
+            __setitem__ = __delitem__ = __iadd__ = __imul__ = refuse
+
+        self.assertEqual(answers(Watched(MANY)), MANY_ANSWERED)
+
+    def test_what_is_given_back_is_a_list_of_its_own(self):
+        calls = []
+        self.assertIsNot(answers(calls), calls)
+
+
+class NothingKept(unittest.TestCase):
+    def test_twice_the_same_list(self):
+        calls = list(MANY)
+        self.assertEqual(answers(calls), MANY_ANSWERED)
+        self.assertEqual(answers(calls), MANY_ANSWERED)
+
+    def test_a_list_begins_with_nothing(self):
+        answers([0, 6])
+        self.assertEqual(answers([6]), [1, -11])
+
+    def test_answers_changed_by_the_caller_change_no_later_ones(self):
+        answers(MANY).clear()
+        self.assertEqual(answers(MANY), MANY_ANSWERED)
+
+    def test_nothing_is_printed(self):
+        printed = io.StringIO()
+        with contextlib.redirect_stdout(printed), contextlib.redirect_stderr(printed):
+            answers(MANY)
+        self.assertEqual(printed.getvalue(), "")
+
+
+class BeforeBegin(unittest.TestCase):
+    CALLS = (
+        glue([0], [0]), glue([], []), glue([0, 0], [7]), go(0, 0), go(9, 9), walk(0, []), walk(GREATEST, [4] * 31),
+        corners(), corner(0), corner(GREATEST), holes(), name(),
+    )
+
+    def test_each_call(self):
+        for call in self.CALLS:
+            self.assertEqual(ask(call), [[-11]], call)
+
+    def test_each_call_behind_a_refused_begin(self):
+        for call in self.CALLS:
+            for n in (0, 7, GREATEST):
+                self.assertEqual(ask(begin(n), call), [[-22], [-11]], call)
+
+    def test_calls_behind_one_another(self):
+        self.assertEqual(ask(*self.CALLS), [[-11]] * len(self.CALLS))
+
+    def test_then_a_begin_is_taken(self):
+        self.assertEqual(ask(*self.CALLS, begin(2), holes())[-2:], [[0], [1]])
+
+    def test_every_other_call_of_the_interface(self):
+        others = ([8, 1, 0, 2, 5, 6], [9], [10, 3, 0, 1, 2], [11], [12], [13, 4, 14], [14])
+        self.assertEqual(ask(*others), [[-11]] * len(others))
+
+
+if __name__ == "__main__":
+    unittest.main()
