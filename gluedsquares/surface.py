@@ -12,6 +12,8 @@ EAST = 0
 NORTH = 1
 LAST_STEP = 3
 ONCE_ROUND = (0, 1, 2, 3)
+ALONG_ROW = (0,)
+ALONG_COLUMN = (1,)
 
 BEGIN = 0
 GLUE = 1
@@ -21,9 +23,15 @@ CORNERS = 4
 CORNER = 5
 HOLES = 6
 NAME = 7
+SAME = 8
+SELVES = 9
+RENAME = 10
+ROWS = 11
+COLUMNS = 12
+NEAR = 13
 
-# How many whole numbers and how many rows a call has, by its number. All calls
-# of the interface stand here, as what comes behind one can't be found without.
+# How many whole numbers and how many rows a call has, by its number: what comes
+# behind a call can't be found without, be it refused or not.
 SHAPES = (
     (1, 0),
     (0, 2),
@@ -83,8 +91,22 @@ def renamed_from(square, east, north):
     return renamed(east, order) + renamed(north, order)
 
 
+def names_by_orders(east, north):
+    """What it is renamed to by the order from each square in turn."""
+    return [renamed_from(square, east, north) for square in range(len(east))]
+
+
 def least_name(east, north):
-    return min([renamed_from(square, east, north) for square in range(len(east))])
+    return min(names_by_orders(east, north))
+
+
+def gluing_fault(east, north, size):
+    """The refusal that is due to these lists, or 0 if they can be glued."""
+    if not tells_all_once(east, size) or not tells_all_once(north, size):
+        return NOT_RIGHT
+    if not hang_together(east, north):
+        return NOT_TOGETHER
+    return 0
 
 
 def led_by(steps, square, ways):
@@ -94,26 +116,45 @@ def led_by(steps, square, ways):
     return here
 
 
-def squares_round(square, ways):
-    """The squares at the corner in the north east of this one, this one first."""
+def squares_round(square, steps, ways):
+    """The squares that come by these steps again and again, this one first."""
     squares = [square]
-    here = led_by(ONCE_ROUND, square, ways)
+    here = led_by(steps, square, ways)
     while here != square:
         squares.append(here)
-        here = led_by(ONCE_ROUND, here, ways)
+        here = led_by(steps, here, ways)
     return squares
 
 
-def corner_sizes(ways):
-    """How often one goes round each corner, by the least square of each."""
+def round_sizes(steps, ways):
+    """How many squares come together by these steps, by the least square of each round."""
     met = []
     sizes = []
     for square in range(len(ways[EAST])):
         if square not in met:
-            squares = squares_round(square, ways)
+            squares = squares_round(square, steps, ways)
             met.extend(squares)
             sizes.append(len(squares))
     return sizes
+
+
+def with_neighbours(squares, ways):
+    wider = list(squares)
+    for way in ways:
+        for square in squares:
+            if way[square] not in wider:
+                wider.append(way[square])
+    return wider
+
+
+def fewest_steps(start, goal, ways):
+    # The goal is met at last, as all squares hang together.
+    reached = [start]
+    steps = 0
+    while goal not in reached:
+        reached = with_neighbours(reached, ways)
+        steps += 1
+    return steps
 
 
 def counted(numbers):
@@ -142,12 +183,11 @@ class Surface:
         return [0]
 
     def glue(self, east, north):
-        if not tells_all_once(east, self.size) or not tells_all_once(north, self.size):
-            return [NOT_RIGHT]
-        if not hang_together(east, north):
-            return [NOT_TOGETHER]
+        fault = gluing_fault(east, north, self.size)
+        if fault != 0:
+            return [fault]
         self.lay(east, north)
-        return [len(corner_sizes(self.ways))]
+        return [len(round_sizes(ONCE_ROUND, self.ways))]
 
     def go(self, square, step):
         if square >= self.size:
@@ -164,18 +204,49 @@ class Surface:
         return [led_by(steps, square, self.ways)]
 
     def corners(self):
-        return counted(corner_sizes(self.ways))
+        return counted(round_sizes(ONCE_ROUND, self.ways))
 
     def corner(self, square):
         if square >= self.size:
             return [NO_SQUARE]
-        return counted(squares_round(square, self.ways))
+        return counted(squares_round(square, ONCE_ROUND, self.ways))
 
     def holes(self):
-        return [(self.size - len(corner_sizes(self.ways))) // 2 + 1]
+        return [(self.size - len(round_sizes(ONCE_ROUND, self.ways))) // 2 + 1]
 
     def name(self):
         return counted(least_name(self.ways[EAST], self.ways[NORTH]))
+
+    def same(self, east, north):
+        fault = gluing_fault(east, north, self.size)
+        if fault != 0:
+            return [fault]
+        own_name = least_name(self.ways[EAST], self.ways[NORTH])
+        return [1 if least_name(east, north) == own_name else 0]
+
+    def selves(self):
+        names = names_by_orders(self.ways[EAST], self.ways[NORTH])
+        return [names.count(names[0])]
+
+    def rename(self, order):
+        if not tells_all_once(order, self.size):
+            return [NOT_RIGHT]
+        self.lay(renamed(self.ways[EAST], order), renamed(self.ways[NORTH], order))
+        return [0]
+
+    def rows(self):
+        return counted(round_sizes(ALONG_ROW, self.ways))
+
+    def columns(self):
+        return counted(round_sizes(ALONG_COLUMN, self.ways))
+
+    def near(self, start, goal):
+        if start >= self.size or goal >= self.size:
+            return [NO_SQUARE]
+        return [fewest_steps(start, goal, self.ways)]
+
+    def state(self):
+        return [self.size] + self.ways[EAST] + self.ways[NORTH]
 
 
 class Reader:
@@ -219,7 +290,19 @@ def answer(surface, call, numbers, rows):
         return surface.holes()
     if call == NAME:
         return surface.name()
-    raise NotImplementedError(f"call {call} is not built yet")
+    if call == SAME:
+        return surface.same(rows[0], rows[1])
+    if call == SELVES:
+        return surface.selves()
+    if call == RENAME:
+        return surface.rename(rows[0])
+    if call == ROWS:
+        return surface.rows()
+    if call == COLUMNS:
+        return surface.columns()
+    if call == NEAR:
+        return surface.near(numbers[0], numbers[1])
+    return surface.state()
 
 
 def answers(calls):

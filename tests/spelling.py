@@ -3,6 +3,7 @@
 from gluedsquares.surface import answers
 
 GREATEST = 4294967295
+MOST_CALLS = 40
 
 
 def row(numbers):
@@ -41,8 +42,38 @@ def name():
     return [7]
 
 
+def same(l, k):
+    return [8] + row(l) + row(k)
+
+
+def selves():
+    return [9]
+
+
+def rename(l):
+    return [10] + row(l)
+
+
+def rows():
+    return [11]
+
+
+def columns():
+    return [12]
+
+
+def near(s, t):
+    return [13, s, t]
+
+
+def state():
+    return [14]
+
+
 def ask(*calls):
     """The answers to these calls on one new object, a list for each."""
+    if len(calls) > MOST_CALLS:
+        raise AssertionError(f"{len(calls)} calls are more than a list may have")
     given = answers([number for call in calls for number in call])
     parts = []
     place = 0
